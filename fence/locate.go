@@ -22,7 +22,7 @@ func atRatios(x, y api.Ratio) place {
 	common := product(x.Den, y.Den)
 	east, north := product(x.Num, y.Den), product(y.Num, x.Den)
 	return func(a, b, c int) int {
-		return wide.Sign(sum(product(east, wide.Of(a)), product(north, wide.Of(b)), product(common, wide.Of(c))))
+		return wide.Sign(plus(product(east, wide.Of(a)), product(north, wide.Of(b)), product(common, wide.Of(c))))
 	}
 }
 
@@ -36,14 +36,14 @@ func (at place) north(v api.Vec) int { return at(0, -1, v.Y) }
 func (at place) left(a, b api.Vec) int { return at(a.Y-b.Y, b.X-a.X, area2(a, b)) }
 
 // covers reports whether a place is on one of some edges, or they go round it.
-func covers(edges iter.Seq2[api.Vec, api.Vec], at place) bool {
-	number, on := winding(edges, at)
+func covers(border iter.Seq2[api.Vec, api.Vec], at place) bool {
+	number, on := winding(border, at)
 	return on || number != 0
 }
 
 // winding returns how often some edges go round a place, to the left, and whether it is on one of them. Each edge counts that goes past the place on its east side.
-func winding(edges iter.Seq2[api.Vec, api.Vec], at place) (number int, on bool) {
-	for a, b := range edges {
+func winding(border iter.Seq2[api.Vec, api.Vec], at place) (number int, on bool) {
+	for a, b := range border {
 		from, to := at.north(a), at.north(b)
 		if from*to > 0 {
 			continue

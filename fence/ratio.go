@@ -13,8 +13,8 @@ func product(a, b api.Wide) api.Wide {
 	return out
 }
 
-// sum returns the sum of some numbers.
-func sum(numbers ...api.Wide) api.Wide {
+// plus returns the sum of some numbers.
+func plus(numbers ...api.Wide) api.Wide {
 	var out api.Wide
 	for _, n := range numbers {
 		out, _ = wide.Add(out, n)
